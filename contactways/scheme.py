@@ -17,7 +17,7 @@ class Contact:
 
 
 class Scheme:
-    """The bits of the scheme's variables, and its contacts in order.
+    """The bits of the scheme's variables, its contacts in order, and its used variables, rising.
 
     Lamps, coils and delays are not kept: no call asks for them.
     """
@@ -25,6 +25,10 @@ class Scheme:
     def __init__(self, bits, contacts):
         self.bits = bits
         self.contacts = contacts
+        self.used = sorted(set([contact.variable for contact in contacts]))
+        # Each is worked out when first asked for: many calls on one scheme then share the work.
+        self.least_conditions = None
+        self.live_table = None
 
 
 def is_state(number):

@@ -42,6 +42,16 @@ def distances(links, start):
     return away
 
 
+def live_nodes(contacts, on, off):
+    """The nodes, as bits, to which what lets through leads from the rail."""
+    away = distances(links_of(contacts, on, off), RAIL)
+    return sum([1 << node for node in range(NODES) if away[node] is not None])
+
+
+def is_among(nodes, node):
+    return (nodes >> node) % 2 == 1
+
+
 def first_nearer(links, away, here):
     """The link of the least contact that leads from here one contact nearer."""
     for link in links[here]:

@@ -20,6 +20,33 @@ def suffice(on, off, k):
     return [4, on, off, k]
 
 
+def sums(k):
+    return [5, k]
+
+
+def first(k, l):
+    return [6, k, l]
+
+
+def matter(k):
+    return [7, k]
+
+
+def inputs(many):
+    """The lines of so many inputs: i0, i1 and on."""
+    return "".join([f"in i{number}\n" for number in range(many)])
+
+
+def relays(many):
+    """The lines of so many relays: r0, r1 and on."""
+    return "".join([f"relay r{number} at 1\n" for number in range(many)])
+
+
+def closers(many):
+    """Inputs and for each of them a closer between nodes 0 and 1."""
+    return inputs(many) + "".join([f"close i{number} 0 1\n" for number in range(many)])
+
+
 def run(*calls):
     """The answers to calls on one new object, a list for each call."""
     told = answers([number for call in calls for number in call])

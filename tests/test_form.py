@@ -108,6 +108,27 @@ class Form(unittest.TestCase):
             used = set([node.id for node in tree if isinstance(node, ast.Name)])
             self.assertEqual(sorted(used - bound - NAMES), [], path)
 
+    def test_sets_and_views_are_used_on_the_spot(self):
+        for path in files():
+            tree = nodes(path)
+            fine = set([id(node.iter) for node in tree if isinstance(node, (ast.For, ast.comprehension))])
+            sets = set()
+            for node in tree:
+                if isinstance(node, ast.Call) and isinstance(node.func, ast.Name) and node.keywords == []:
+                    if node.func.id in ("sorted", "len"):
+                        sets.update([id(part) for part in node.args])
+                    if node.func.id in ("list", "tuple", "dict", "sorted", "sum", "any", "all", "enumerate", "zip", "min", "max"):
+                        fine.update([id(part) for part in node.args[:1]])
+            for node in tree:
+                if isinstance(node, ast.Call) and isinstance(node.func, ast.Name):
+                    if node.func.id in ("set", "frozenset"):
+                        self.assertIn(id(node), sets, (path, node.lineno))
+                    if node.func.id in ("zip", "enumerate", "reversed", "range"):
+                        self.assertIn(id(node), fine, (path, node.lineno))
+                if isinstance(node, ast.Call) and isinstance(node.func, ast.Attribute):
+                    if node.func.attr in ("items", "keys", "values"):
+                        self.assertIn(id(node), fine, (path, node.lineno))
+
     def test_attributes(self):
         methods = set()
         stored = set()

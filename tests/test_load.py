@@ -1,6 +1,6 @@
 import unittest
 
-from tests.calling import border, fault, load, on_scheme, path, run, suffice
+from tests.calling import border, fault, first, inputs, load, matter, on_scheme, path, relays, run, suffice, sums
 
 OF_EACH_SORT = (
     "in a\n"
@@ -13,14 +13,6 @@ OF_EACH_SORT = (
     "open a 0 1\n"
     "close r 1 63\n"
 )
-
-
-def inputs(many):
-    return "".join([f"in i{number}\n" for number in range(many)])
-
-
-def relays(many):
-    return "".join([f"relay r{number} at 1\n" for number in range(many)])
 
 
 def lamps(many):
@@ -244,14 +236,16 @@ class Size(unittest.TestCase):
 class Kept(unittest.TestCase):
     def test_faulty_and_refused_loads_change_nothing(self):
         text = "in a\nrelay r at 1\nclose a 0 1\nopen r 1 2\n"
-        asked = (path(1, 2), border(0), suffice(1, 1, 1), suffice(1, 1 << 16, 2))
-        before = [[0, 0, 1], [0, 0], [-5], [0, 1]]
+        asked = (path(1, 2), border(0), suffice(1, 1, 1), suffice(1, 1 << 16, 2), sums(2), first(1, 2), matter(2))
+        before = [[0, 0, 1], [0, 0], [-5], [0, 1], [0, 1, 1 << 16], [0, 1 + (1 << 16)], [0, 0, 16]]
         others = ((load("in b\nclose b 0 5\n\n"), [0, 1, 2]), (load("close b 0 5\nin b\n"), [0, 2, 1]),
                   (load(inputs(17)), [0, 3, 16]), (load("in b\nin b\nclose b 0 1\n"), [0, 4, 1]),
                   (load("in b\nclose c 0 5\n"), [0, 5, 1]), (load([10] * 20001), [-1]), (path(-1, 0), [-1]),
-                  (path(0, 63), [-5]), (border(-1), [-1]), (suffice(0, 0, 64), [-1]))
+                  (path(0, 63), [-5]), (border(-1), [-1]), (suffice(0, 0, 64), [-1]), (sums(64), [-1]),
+                  (first(0, -1), [-1]), (first(2, 2), [-5]), (matter(-1), [-1]))
         for other, told in others:
             self.assertEqual(on_scheme(text, other, *asked), [told] + before)
+            self.assertEqual(on_scheme(text, *asked, other, *asked), before + [told] + before)
 
 
 if __name__ == "__main__":
